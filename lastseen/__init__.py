@@ -1,0 +1,1 @@
+"""Lastseen: when each was last seen, kept in few bits."""

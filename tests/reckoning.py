@@ -59,6 +59,32 @@ def slowly_seen(rule, mark):
     return mark + 2 ** rule[1] if mark < 2 ** rule[1] else mark
 
 
+def mark_of_seen_once(rule, then, now):
+    """The mark now of a thing that was seen in the moment then, and never else."""
+    mark = end_of(rule)
+    for moment in range(now + 1):
+        mark = one_moment(rule, mark, moment)
+        if moment == then:
+            mark = slowly_seen(rule, mark)
+    return mark
+
+
+def slow_reach(rule):
+    """The most moments that a thing, whenever it was seen, goes on without the end."""
+    turn = 64 if rule[0] == "rough" else rule[2]
+    return min(moments_without_end(rule, mark, begin)
+               for mark in marks_when_seen(rule) for begin in range(2 * turn))
+
+
+def moments_without_end(rule, mark, begin):
+    """For how many moments this mark, from begin on, does not come to the end."""
+    now = begin
+    while mark != end_of(rule):
+        now += 1
+        mark = one_moment(rule, mark, now)
+    return now - begin - 1
+
+
 def marks_when_seen(rule):
     """All marks that a thing may have when it is just seen."""
     return {slowly_seen(rule, mark) for mark in marks_of(rule)}
@@ -103,6 +129,33 @@ def longest_to_end(rule):
     if rule[0] == "shift":
         return (rule[1] + 2) * rule[2]
     return 2 * 2 ** (2 ** rule[1] - 2)
+
+
+class SlowBoard:
+    """A board whose time goes by moment by moment, and that knows when things were seen."""
+
+    def __init__(self, rule, things):
+        self.rule = rule
+        self.marks = [end_of(rule)] * things
+        self.last_seen = [None] * things
+        self.now = 0
+
+    def see(self, thing):
+        self.marks[thing] = slowly_seen(self.rule, self.marks[thing])
+        self.last_seen[thing] = self.now
+
+    def pass_by(self, many):
+        for _ in range(many):
+            self.now += 1
+            self.marks = [one_moment(self.rule, mark, self.now) for mark in self.marks]
+
+    def truly_oldest(self):
+        """The things that were never seen, or else those that were not for the longest."""
+        if None in self.last_seen:
+            first = None
+        else:
+            first = min(self.last_seen)
+        return [thing for thing, then in enumerate(self.last_seen) if then == first]
 
 
 class Numbers:

@@ -5,18 +5,12 @@ from lastseen.rules import aged, seen
 from lastseen.spans import off, reach, span
 from reckoning import (FAR, Numbers, all_rules, end_of, last_of, marks_of, slowly_aged,
                        slowly_seen, some_rules)
+from refusals import Refusals
 
 BOUNDS = {"count": (6, 20), "shift": (10, 20), "rough": (3,)}
 
 # Each takes a rule as the first thing that is handed in.
 WITH_RULE = (lambda rule: aged(rule, 0, 0, 0), lambda rule: span(rule, 0, 0), off, reach)
-
-
-class Refusals(unittest.TestCase):
-    def refused(self, kind, call, *handed_in):
-        with self.assertRaises(ValueError) as caught:
-            call(*handed_in)
-        self.assertIs(caught.exception.__class__, kind, handed_in)
 
 
 class Rules(Refusals):

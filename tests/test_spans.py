@@ -4,18 +4,14 @@ from lastseen.errors import BadMark, BadMoment, BadRule
 from lastseen.rules import aged
 from lastseen.spans import off, reach, span
 from reckoning import (FAR, Numbers, all_rules, end_of, last_of, longest_to_end, marks_of,
-                       one_moment, slowly_aged, slowly_seen, some_rules, spans_from)
+                       one_moment, slow_reach, slowly_aged, slowly_seen, some_rules, spans_from)
+from refusals import Refusals
 
 
-class Spans(unittest.TestCase):
+class Spans(Refusals):
     def same_spans(self, rule, now, reckoned):
         told = {mark: span(rule, now, mark) for mark in marks_of(rule)}
         self.assertEqual(told, reckoned, (rule, now))
-
-    def refused(self, kind, call, *handed_in):
-        with self.assertRaises(ValueError) as caught:
-            call(*handed_in)
-        self.assertIs(caught.exception.__class__, kind, handed_in)
 
 
 class Span(Spans):
@@ -188,20 +184,7 @@ class Reach(Spans):
     def test_against_all_rests(self):
         for rule in some_rules():
             if longest_to_end(rule) <= 400 and last_of(rule) < 64:
-                self.assertEqual(reach(rule), self.slow_reach(rule), rule)
-
-    def slow_reach(self, rule):
-        turn = 64 if rule[0] == "rough" else rule[2]
-        fresh = {slowly_seen(rule, mark) for mark in marks_of(rule)}
-        return min(self.safe(rule, mark, begin) for mark in fresh for begin in range(2 * turn))
-
-    def safe(self, rule, mark, begin):
-        """For how many moments this mark, from begin on, does not come to the end."""
-        now = begin
-        while mark != end_of(rule):
-            now += 1
-            mark = one_moment(rule, mark, now)
-        return now - begin - 1
+                self.assertEqual(reach(rule), slow_reach(rule), rule)
 
     def test_by_rough(self):
         self.assertEqual([reach(("rough", bits)) for bits in (1, 2, 3)], [0, 3, 63])
